@@ -1,0 +1,1 @@
+"""Rows of steps read forward, backward, turned and taken back."""
