@@ -1,0 +1,49 @@
+import ast
+import inspect
+import importlib
+import pathlib
+import unittest
+
+ROOT = pathlib.Path(__file__).resolve().parent.parent
+
+FUNCTIONS = {
+    "rows": "degrees(row) is_point(row, value) long_error(value) needed(row) row_error(value) sizes(row) "
+            "told(row, point) values(row, point)",
+    "polys": "constant(many, number) minus(one, other) plus(one, other) scaled(poly, number) times(one, other) "
+             "unknown(many, index) value_of(poly, numbers)",
+    "sames": "parting(one, other) polys(row) same(one, other)",
+    "rates": "forward(row) hangs(row) is_forward(row, value) rate(poly, unknown) rate_poly(row, end, unknown) "
+             "rates_at(row, point) rates_fed(row, other, point) second(row, end, one, other) spread(poly)",
+    "backward": "backward(row) is_backward(row, value)",
+    "boxes": "by_rates(row, box) corner(row, end, box) growth(row, box) is_box(row, value) middle(box) "
+             "parted(box, unknown, number) point_count(box) ranges(row, box) rate_ranges(row, box)",
+    "tapes": "moved(tape, filling) same_moved(one, other) sign(tape) taken_back(tape) tape_error(value) "
+             "tape_polys(tape) tape_row(tape) unlike_filling(one, other)",
+    "clean": "clean_tape(row) is_clean(row, value)",
+}
+
+
+class InterfaceTest(unittest.TestCase):
+
+    def test_each_function_is_defined_in_its_file_with_its_arguments(self):
+        for module, told in FUNCTIONS.items():
+            tree = ast.parse((ROOT / "rowsback" / (module + ".py")).read_text("utf-8"))
+            found = {node.name: node for node in tree.body if isinstance(node, ast.FunctionDef)}
+            held = importlib.import_module("rowsback." + module)
+            for one in told.replace(") ", ")|").split("|"):
+                name, arguments = one[:-1].split("(")
+                self.assertIn(name, found, module)
+                self.assertEqual(ast.unparse(found[name].args), arguments, name)
+                function = getattr(held, name)
+                self.assertEqual(function.__module__, "rowsback." + module)
+                for parameter in inspect.signature(function).parameters.values():
+                    self.assertEqual(parameter.kind, parameter.POSITIONAL_OR_KEYWORD)
+                    self.assertIs(parameter.default, parameter.empty)
+
+    def test_errors_are_defined_in_their_file(self):
+        tree = ast.parse((ROOT / "rowsback" / "errors.py").read_text("utf-8"))
+        self.assertEqual(len([node for node in tree.body if isinstance(node, ast.ClassDef)]), 24)
+
+
+if __name__ == "__main__":
+    unittest.main()
