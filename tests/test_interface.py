@@ -20,7 +20,27 @@ FUNCTIONS = {
     "tapes": "moved(tape, filling) same_moved(one, other) sign(tape) taken_back(tape) tape_error(value) "
              "tape_polys(tape) tape_row(tape) unlike_filling(one, other)",
     "clean": "clean_tape(row) is_clean(row, value)",
+    "fitting": "beside(one, other) fed(one, other) renamed(row, inputs, order) slim(row)",
+    "texts": "poly_text(poly) read_row(value) row_text(row)",
+    "sweeps": "kept(row) seconds_at(row, end, point) swept(row, point, weights) swept_by(row, some, weights)",
+    "patterns": "fed_pattern(one, other) pattern_error(value) pattern_of(row) turned_pattern(pattern)",
 }
+
+# For each class its properties, and the methods that stand in its own body.
+CLASSES = {
+    ("desks", "Desk"): (
+        "inputs steps ends version",
+        "__init__(self, value) __len__(self) __contains__(self, x) __getitem__(self, at) __iter__(self) row(self) "
+        "told(self, point) rates(self, name, point) poly(self, name) add(self, step) put(self, number, step) "
+        "drop(self) label(self, name, number) unlabel(self, name) undo(self) redo(self) batch(self, edits) "
+        "attempt(self, work) news(self) copy(self) __eq__(self, other) __str__(self)"),
+    ("desks", "KeptDesk"): ("kept", "__init__(self, value, names) copy(self) __str__(self)"),
+}
+
+
+def parted(told):
+    """Return the pairs (name, arguments) of such a text."""
+    return [tuple(one[:-1].split("(")) for one in told.replace(") ", ")|").split("|")]
 
 
 class InterfaceTest(unittest.TestCase):
@@ -30,8 +50,7 @@ class InterfaceTest(unittest.TestCase):
             tree = ast.parse((ROOT / "rowsback" / (module + ".py")).read_text("utf-8"))
             found = {node.name: node for node in tree.body if isinstance(node, ast.FunctionDef)}
             held = importlib.import_module("rowsback." + module)
-            for one in told.replace(") ", ")|").split("|"):
-                name, arguments = one[:-1].split("(")
+            for name, arguments in parted(told):
                 self.assertIn(name, found, module)
                 self.assertEqual(ast.unparse(found[name].args), arguments, name)
                 function = getattr(held, name)
@@ -39,6 +58,19 @@ class InterfaceTest(unittest.TestCase):
                 for parameter in inspect.signature(function).parameters.values():
                     self.assertEqual(parameter.kind, parameter.POSITIONAL_OR_KEYWORD)
                     self.assertIs(parameter.default, parameter.empty)
+
+    def test_each_class_is_defined_in_its_file_with_its_methods(self):
+        for (module, name), (properties, methods) in CLASSES.items():
+            tree = ast.parse((ROOT / "rowsback" / (module + ".py")).read_text("utf-8"))
+            body = [node for node in tree.body if isinstance(node, ast.ClassDef) and node.name == name][0].body
+            found = {node.name: node for node in body if isinstance(node, ast.FunctionDef)}
+            held = getattr(importlib.import_module("rowsback." + module), name)
+            self.assertEqual(held.__module__, "rowsback." + module)
+            for one in properties.split():
+                self.assertIsInstance(vars(held)[one], property)
+            for method, arguments in parted(methods):
+                self.assertIn(method, vars(held))
+                self.assertEqual(ast.unparse(found[method].args), arguments, method)
 
     def test_errors_are_defined_in_their_file(self):
         tree = ast.parse((ROOT / "rowsback" / "errors.py").read_text("utf-8"))

@@ -14,10 +14,10 @@ import unittest
 
 PACKAGE = pathlib.Path(__file__).resolve().parent.parent / "rowsback"
 FILES = sorted(PACKAGE.glob("*.py"))
+# Nothing of itertools: a desk is iterated over and has a length (L2 Products).
 LIBRARY = {
     "heapq": {"heappush", "heappop", "heapify", "heapreplace", "heappushpop"},
     "math": {"gcd", "lcm", "isqrt", "comb", "perm", "factorial"},
-    "itertools": {"product", "combinations", "permutations"},
 }
 BUILTINS = set("""len range enumerate zip min max sum abs sorted reversed int str bool bytes list tuple dict set
     isinstance ord repr any all divmod iter next map super property staticmethod classmethod Exception ValueError
@@ -154,6 +154,39 @@ def l5_classes(name, tree):
             for part in node.body:
                 if isinstance(part, ast.FunctionDef) and part.name.startswith("__") and part.name not in DOUBLE:
                     yield part.lineno, "no such method"
+            methods = {part.name: part for part in node.body if isinstance(part, ast.FunctionDef)}
+            if "__getitem__" in methods and "__iter__" not in methods:
+                yield node.lineno, "__getitem__ without __iter__"
+            if "__iter__" in methods and not re.fullmatch(r"return iter\(self\.\w+\)", only_row(methods["__iter__"])):
+                yield node.lineno, "wrong form of __iter__"
+            if "__len__" in methods and not re.fullmatch(r"return len\(self\.\w+\)", only_row(methods["__len__"])):
+                yield node.lineno, "wrong form of __len__"
+            for method in methods.values():
+                if is_quiet(method) and any(changes(part) for part in ast.walk(method)):
+                    yield method.lineno, "an operator or a property changes something"
+    for node in ast.walk(tree):
+        if called_name(node) == "super" and not called_name(node.parent.parent):
+            yield node.lineno, "wrong use of super"
+        if isinstance(node, ast.Attribute) and called_name(node.value) == "super":
+            if node.attr.startswith("__") and node.attr != "__init__":
+                yield node.lineno, "super() calls a double-underscore method"
+
+
+def only_row(method):
+    """Return the text of the one statement of the method, "" if it has more."""
+    return ast.unparse(method.body[0]) if len(method.body) == 1 else ""
+
+
+def is_quiet(method):
+    """Return whether the method is an operator or a property, which may change nothing."""
+    marks = [getattr(mark, "id", "") for mark in method.decorator_list]
+    return "property" in marks or method.name.startswith("__") and method.name not in ("__init__", "__call__")
+
+
+def changes(node):
+    """Return whether an attribute or an item is changed here."""
+    stored = isinstance(node, (ast.Attribute, ast.Subscript)) and not isinstance(node.ctx, ast.Load)
+    return stored or called_name(node) in CHANGING | {"add", "discard"} or isinstance(node, ast.AugAssign)
 
 
 def l6_statements(name, tree):
@@ -386,11 +419,18 @@ CHECKS = [check for name, check in sorted(globals().items()) if re.match(r"l\d+_
 
 # For each check what it must find.
 WRONG = {
-    l2_imports: ["import math", "from os import path", "from math import sin", "from rowsback.rows import *",
+    l2_imports: ["import math", "from os import path", "from itertools import product", "from math import sin", "from rowsback.rows import *",
                  "from .rows import told", "x = 1\nfrom rowsback.rows import told"],
     l3_module_level: ["x = len('a')", "x = y = 1", "x, y = 1, 2", "if 1:\n    x = 1", "X = [[1]]", "print(1)"],
     l4_functions: ["@f\ndef g():\n    pass", "def g(a=len('a')):\n    pass", "def g(a=[]):\n    pass"],
-    l5_classes: ["class A:\n    def __hash__(self):\n        return 1", "def f():\n    class A:\n        pass"],
+    l5_classes: ["class A:\n    def __hash__(self):\n        return 1", "def f():\n    class A:\n        pass",
+                 "class A:\n    def __getitem__(self, at):\n        return 1",
+                 "class A:\n    def __iter__(self):\n        x = 1\n        return iter(self.x)",
+                 "class A:\n    def __len__(self):\n        return self.x",
+                 "class A:\n    def __eq__(self, other):\n        self.x = 1\n        return True",
+                 "class A:\n    @property\n    def x(self):\n        self.y.append(1)\n        return 1",
+                 "class A:\n    def x(self):\n        return super().__str__()",
+                 "class A:\n    def x(self):\n        return super()"],
     l6_statements: ["def f():\n    global x", "async def f():\n    pass", "def f():\n    1 + 1"],
     l7_expressions: ["x = 1.5", "def f(a):\n    return a / 2", "def f(a):\n    return sum(b for b in a)",
                      "def f(a):\n    return zip(*[b for b in a])", "X = [a for a in (1, 2)]"],
