@@ -24,14 +24,15 @@ def tape_error(value):
         return (None, "moves")
     degrees = [1] * places
     for index, move in enumerate(moves):
-        if not _is_move(move, places):
+        if not is_move(move, places):
             return (index, "move")
         if not _deepen(degrees, move):
             return (index, "degree")
     return None
 
 
-def _is_move(value, places):
+def is_move(value, places):
+    """Return whether the value is a move of a tape with so many places."""
     # Only a string is looked up: other values may not serve as keys.
     if not isinstance(value, tuple) or not value or not isinstance(value[0], str):
         return False

@@ -23,6 +23,16 @@ FUNCTIONS = {
     "fitting": "beside(one, other) fed(one, other) renamed(row, inputs, order) slim(row)",
     "texts": "poly_text(poly) read_row(value) row_text(row)",
     "sweeps": "kept(row) seconds_at(row, end, point) swept(row, point, weights) swept_by(row, some, weights)",
+    "straight": "is_plain(row) is_straight(row) row_of(inputs, table, column) table_of(row)",
+    "reach": "determinant(row) hinders(row, wish, value) hindrance(row, wish) origin(row, wish) rank(row) "
+             "relations(row) undone(row)",
+    "places": "in_place(row) in_place_holds(row, value)",
+    "holding": "are_slots(row, order, value) best_counted(row) best_order(row) held(row, value) "
+               "is_order(row, value) is_wood(row) least_load(row) load(row, value) orders_counted(row) "
+               "slots(row, value)",
+    "groups": "both_groups(pattern) group_count(pattern, number) groups(pattern) is_both(pattern, value) "
+              "is_grouping(pattern, value) rates_by(row, grouping, point) squeezed(row, grouping, point) "
+              "together(pattern)",
     "patterns": "fed_pattern(one, other) pattern_error(value) pattern_of(row) turned_pattern(pattern)",
 }
 

@@ -372,7 +372,8 @@ def l24_sets(name, tree):
     for node in ast.walk(tree):
         if isinstance(node, (ast.Set, ast.SetComp)) or called_name(node) in ("set", "frozenset"):
             above = node.parent
-            if not isinstance(above, ast.Compare) and called_name(above) not in ("sorted", "len"):
+            direct = called_name(above) in ("sorted", "len") and not above.keywords
+            if not isinstance(above, ast.Compare) and not direct:
                 yield node.lineno, "a set"
 
 
@@ -449,7 +450,8 @@ WRONG = {
     l23_at_once: ["def f(a):\n    x = zip(a, a)", "def f(a):\n    return a.items()",
                   "def f(a):\n    for b in a:\n        a.append(b)",
                   "def f(a):\n    for k, b in enumerate(a):\n        a[k] = 1"],
-    l24_sets: ["def f(a):\n    x = set(a)", "def f(a):\n    return {1, a}"],
+    l24_sets: ["def f(a):\n    x = set(a)", "def f(a):\n    return {1, a}",
+               "def f(a):\n    return sorted(set(a), key=len)"],
     l25_methods: ["def f(a):\n    return a.format(1)", "def f(a):\n    x = a.append", "def f(a):\n    a.items = 1"],
     l27_strings: ["def f(a):\n    return 2 ** a", "x = 'a %'", "x = '__odd__'", "x = 'a._'"],
     l28_double_underscores: ["class A:\n    def __init__(self):\n        return None", "def __len__(a):\n    return 1"],
