@@ -49,14 +49,19 @@ def _partings(many, meeting, some_left_out):
     """Return all ways to put the numbers below many into groups of such as do not meet, perhaps with some left out."""
     found = [()]
     for number in range(many):
-        longer = list(found) if some_left_out else []
-        for parting in found:
-            longer.append(parting + ((number,),))
-            for index, group in enumerate(parting):
-                if not any([(other, number) in meeting for other in group]):
-                    longer.append(parting[:index] + (group + (number,),) + parting[index + 1:])
-        found = longer
+        found = [more for parting in found for more in _grown(parting, number, meeting, some_left_out)]
     return found
+
+
+def _grown(parting, number, meeting, some_left_out):
+    """Return the ways to put one more number into the groups: perhaps into none, into one of its own, into each."""
+    without = [parting] if some_left_out else []
+    joined = [
+        parting[:index] + (group + (number,),) + parting[index + 1:]
+        for index, group in enumerate(parting)
+        if not any([(other, number) in meeting for other in group])
+    ]
+    return without + [parting + ((number,),)] + joined
 
 
 def together(pattern):

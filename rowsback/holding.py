@@ -99,14 +99,19 @@ def _best(row):
     # For each set of steps that may come first, the least load of an order of just these.
     reached = {0: (0, ())}
     for _ in needed(row):
-        longer = {}
-        for done, (most, order) in reached.items():
-            for number, grown, many in _next_steps(links, done):
-                high = max(most, many)
-                if grown not in longer or high < longer[grown][0]:
-                    longer[grown] = (high, order + (number,))
-        reached = longer
+        reached = _best_longer(links, reached)
     return list(reached.values())[0]
+
+
+def _best_longer(links, reached):
+    """Return the best that is reached with one step more, of what is reached."""
+    longer = {}
+    for done, (most, order) in reached.items():
+        for number, grown, many in _next_steps(links, done):
+            high = max(most, many)
+            if grown not in longer or high < longer[grown][0]:
+                longer[grown] = (high, order + (number,))
+    return longer
 
 
 def _must_be_few(row):
@@ -190,10 +195,15 @@ def _counted(row, most):
     links = _links(row)
     ways = {0: 1}
     for _ in needed(row):
-        longer = {}
-        for done, many in ways.items():
-            for _, grown, holding in _next_steps(links, done):
-                if holding <= most:
-                    longer[grown] = longer.get(grown, 0) + many
-        ways = longer
+        ways = _longer_ways(links, ways, most)
     return sum(ways.values())
+
+
+def _longer_ways(links, ways, most):
+    """Return how many ways lead to each set of one step more, of those that lead to the sets."""
+    longer = {}
+    for done, many in ways.items():
+        for _, grown, holding in _next_steps(links, done):
+            if holding <= most:
+                longer[grown] = longer.get(grown, 0) + many
+    return longer

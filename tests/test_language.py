@@ -368,6 +368,52 @@ def l23_at_once(name, tree):
                     yield part.lineno, "what is iterated over is changed"
 
 
+def l23_other_names(name, tree):
+    """Find where what a loop walks is changed by another name that stands for the same thing at some time."""
+    for function in ast.walk(tree):
+        if not isinstance(function, ast.FunctionDef):
+            continue
+        same = {}
+        for node in ast.walk(function):
+            if isinstance(node, ast.Assign):
+                for target in node.targets:
+                    if isinstance(target, ast.Name):
+                        for other in names_stood_for(node.value):
+                            both = same.get(target.id, {target.id}) | same.get(other, {other})
+                            same |= {one: both for one in both}
+        for node in ast.walk(function):
+            if isinstance(node, ast.For):
+                walked = set(names_stood_for(node.iter))
+                for call in [part for part in ast.walk(node.iter) if isinstance(part, ast.Call)]:
+                    holders = list(call.args) + [getattr(call.func, "value", None)]
+                    walked |= {one for holder in holders for one in names_stood_for(holder)}
+                walked = {one for near in walked for one in same.get(near, {near})}
+                for part in [inner for row in node.body for inner in ast.walk(row)]:
+                    if changed_name(part) in walked:
+                        yield part.lineno, "what is iterated over is changed by another name"
+
+
+def names_stood_for(node):
+    """Return the names of what the value is itself: of a name, or of a choice of some."""
+    if isinstance(node, ast.Name):
+        return [node.id]
+    if isinstance(node, ast.IfExp):
+        return names_stood_for(node.body) + names_stood_for(node.orelse)
+    if isinstance(node, ast.BoolOp):
+        return [one for part in node.values for one in names_stood_for(part)]
+    return []
+
+
+def changed_name(node):
+    """Return the name of what is changed here, None if nothing is."""
+    if isinstance(node, ast.AugAssign):
+        return getattr(node.target, "id", None)
+    stored = isinstance(node, (ast.Subscript, ast.Attribute)) and not isinstance(node.ctx, ast.Load)
+    if stored or isinstance(node, ast.Attribute) and called_name(node.parent) in CHANGING:
+        return getattr(node.value, "id", None)
+    return None
+
+
 def l24_sets(name, tree):
     for node in ast.walk(tree):
         if isinstance(node, (ast.Set, ast.SetComp)) or called_name(node) in ("set", "frozenset"):
@@ -450,6 +496,8 @@ WRONG = {
     l23_at_once: ["def f(a):\n    x = zip(a, a)", "def f(a):\n    return a.items()",
                   "def f(a):\n    for b in a:\n        a.append(b)",
                   "def f(a):\n    for k, b in enumerate(a):\n        a[k] = 1"],
+    l23_other_names: ["def f(a):\n    b = []\n    while a:\n        for c in a:\n            b.append(c)\n        a = b",
+                      "def f(a, d):\n    b = d if d else []\n    for c in d.items():\n        b[c] = 1"],
     l24_sets: ["def f(a):\n    x = set(a)", "def f(a):\n    return {1, a}",
                "def f(a):\n    return sorted(set(a), key=len)"],
     l25_methods: ["def f(a):\n    return a.format(1)", "def f(a):\n    x = a.append", "def f(a):\n    a.items = 1"],
