@@ -2,6 +2,7 @@
 
 from math import gcd
 
+from rowsback.divisors import common_divisor
 from rowsback.errors import NotRound
 from rowsback.kinds import is_integer, is_tuple_of
 from rowsback.straight import table_of, unit_rows
@@ -14,7 +15,7 @@ def relations(row):
     beside = [factors + unit for factors, unit in zip(table, unit_rows(len(table)))]
     # What is behind the factors in a row without factors tells by which multipliers they fall away.
     found = [numbers[row[0]:] for numbers in _reduced(beside) if not any(numbers[:row[0]])]
-    return tuple([multipliers + (-_summed(multipliers, column),) for multipliers in found])
+    return tuple([multipliers + (-summed(multipliers, column),) for multipliers in found])
 
 
 def rank(row):
@@ -22,7 +23,7 @@ def rank(row):
     return len(row[2]) - len(relations(row))
 
 
-def _summed(some, others):
+def summed(some, others):
     """Return the sum of the products of the items at the same places."""
     return sum([one * other for one, other in zip(some, others)])
 
@@ -52,9 +53,7 @@ def _cleared(numbers, by, place):
 
 def _least_multiple(numbers):
     """Return the numbers, not all 0, without a common divisor above 1, the first one other than 0 being above 0."""
-    divisor = 0
-    for number in numbers:
-        divisor = gcd(divisor, number)
+    divisor = common_divisor(numbers)
     if [number for number in numbers if number != 0][0] < 0:
         divisor = -divisor
     return tuple([number // divisor for number in numbers])
@@ -94,6 +93,16 @@ def _filled(held, top, place):
     ])]
 
 
+def stepped_inputs(table, inputs):
+    """Return the moves and the rows in steps that come of the inputs, one row for each.
+
+    A row has the factors of its input in all ends, and behind them those
+    by which the inputs it comes of are summed.
+    """
+    across = [tuple([factors[index] for factors in table]) for index in range(inputs)]
+    return stepped([factors + unit for factors, unit in zip(across, unit_rows(inputs))], len(table))
+
+
 def origin(row, wish):
     """Return integers as the inputs with which the ends are the wish, or None."""
     found, _ = _tried(row, wish)
@@ -110,8 +119,7 @@ def _tried(row, wish):
     """Return the pair of an origin and None, or that of None and a hindrance."""
     table, column = table_of(row)
     many = len(table)
-    across = [tuple([factors[index] for factors in table]) for index in range(row[0])]
-    _, rows = stepped([factors + unit for factors, unit in zip(across, unit_rows(row[0]))], many)
+    _, rows = stepped_inputs(table, row[0])
     rest = [asked - number for asked, number in zip(wish, column)]
     found = [0] * row[0]
     ahead = []
@@ -144,7 +152,7 @@ def _barring(ahead, place, bottom, many):
     tops[place] = whole // bottom
     # All divisions leave no rest: whole has the divisors that come in the way.
     for spot, numbers in ahead[::-1]:
-        tops[spot] = -_summed(tops, numbers) // numbers[spot]
+        tops[spot] = -summed(tops, numbers) // numbers[spot]
     return tuple([_fraction(top, whole) for top in tops])
 
 
@@ -169,9 +177,9 @@ def hinders(row, wish, value):
         whole = whole * bottom // gcd(whole, bottom)
     tops = [top * (whole // bottom) for top, bottom in value]
     for index in range(row[0]):
-        if _summed(tops, [factors[index] for factors in table]) % whole != 0:
+        if summed(tops, [factors[index] for factors in table]) % whole != 0:
             return False
-    return _summed(tops, [asked - number for asked, number in zip(wish, column)]) % whole != 0
+    return summed(tops, [asked - number for asked, number in zip(wish, column)]) % whole != 0
 
 
 def round_table_of(row):
@@ -185,9 +193,15 @@ def round_table_of(row):
 def determinant(row):
     """Return the determinant of the table."""
     table, _ = round_table_of(row)
-    moves, rows = stepped(table, row[0])
-    number = sign((row[0], moves))
-    for index in range(row[0]):
+    return determinant_of(table)
+
+
+def determinant_of(table):
+    """Return the determinant of a table of as many tuples as each of them has items."""
+    many = len(table)
+    moves, rows = stepped(table, many)
+    number = sign((many, moves))
+    for index in range(many):
         number = number * rows[index][index]
     return number
 
@@ -199,4 +213,4 @@ def undone(row):
         return None
     beside = [factors + unit for factors, unit in zip(table, unit_rows(row[0]))]
     back = tuple([numbers[row[0]:] for numbers in _reduced(beside)])
-    return (back, tuple([-_summed(factors, column) for factors in back]))
+    return (back, tuple([-summed(factors, column) for factors in back]))

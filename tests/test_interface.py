@@ -34,6 +34,15 @@ FUNCTIONS = {
               "is_grouping(pattern, value) rates_by(row, grouping, point) squeezed(row, grouping, point) "
               "together(pattern)",
     "patterns": "fed_pattern(one, other) pattern_error(value) pattern_of(row) turned_pattern(pattern)",
+    "keeping": "extended(row) extended_holds(row, value) forgets(row, shift) forgotten(row) kept_weights(row) "
+               "tells_back(row, weights)",
+    "leasts": "greatest(row, end, box) is_least_paper(row, end, box, value) least(row, end, box) "
+              "least_paper(row, end, box) signs(row, end, box)",
+    "lifts": "bare(row, end) endless(row, end, prime) endless_holds(row, end, prime, value) "
+             "lifted(row, end, prime, power, nought)",
+    "matches": "blocks(pattern) cover(pattern) is_cover(pattern, value) is_pairs(pattern, value) pairs(pattern)",
+    "moduli": "count_by(row, end, parts) nought_at(row, end, prime, power, number) "
+              "nought_count(row, end, prime, power) noughts(row, end, prime, power)",
 }
 
 # For each class its properties, and the methods that stand in its own body.
