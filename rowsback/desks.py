@@ -270,6 +270,13 @@ class Desk:
         return made
 
 
+def nameless_desk(inputs):
+    """Return a desk with so many inputs, the step ("set", 0), no name and no edits."""
+    made = Desk((inputs, (("set", 0),), (0,)))
+    made._put_back(((made.steps, ()), (), (), None))
+    return made
+
+
 class KeptDesk(Desk):
     """A desk on which some names must go on standing for the polynomials that they stand for at first."""
 

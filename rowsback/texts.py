@@ -33,9 +33,8 @@ def read_row(value):
             raise BadText(index)
     if len(lines) == 1:
         raise BadText(1)
-    told = [tuple([number_of(word) for word in words[1:]]) for words in lines]
-    steps = [(words[0],) + numbers for words, numbers in zip(lines[1:last], told[1:last])]
-    row = (told[0][0], tuple(steps), told[last])
+    steps = [step_of(words) for words in lines[1:last]]
+    row = (number_of(lines[0][1]), tuple(steps), numbers_of(lines[last][1:]))
     error = long_error(row)
     if error is not None:
         raise BadRow(error)
@@ -44,14 +43,27 @@ def read_row(value):
 
 def _is_line(words, index, last):
     """Return whether the words are of the form of the text line with this index."""
-    word, numbers = words[0], words[1:]
-    if None in [number_of(text) for text in numbers]:
+    if 0 < index < last:
+        return step_of(words) is not None
+    if numbers_of(words[1:]) is None:
         return False
     if index == 0:
-        return word == "inputs" and len(numbers) == 1
-    if index == last:
-        return word == "ends" and len(numbers) > 0
-    return word in NUMBERS and len(numbers) == NUMBERS[word]
+        return words[0] == "inputs" and len(words) == 2
+    return words[0] == "ends" and len(words) > 1
+
+
+def step_of(words):
+    """Return the step, of whatever numbers, that the words stand for, None if they stand for none."""
+    if not words or words[0] not in NUMBERS or len(words) != 1 + NUMBERS[words[0]]:
+        return None
+    numbers = numbers_of(words[1:])
+    return None if numbers is None else (words[0],) + numbers
+
+
+def numbers_of(words):
+    """Return the tuple of the integers that the words stand for, None if one of them stands for none."""
+    numbers = tuple([number_of(word) for word in words])
+    return None if None in numbers else numbers
 
 
 def number_of(word):

@@ -41,6 +41,16 @@ FUNCTIONS = {
     "lifts": "bare(row, end) endless(row, end, prime) endless_holds(row, end, prime, value) "
              "lifted(row, end, prime, power, nought)",
     "matches": "blocks(pattern) cover(pattern) is_cover(pattern, value) is_pairs(pattern, value) pairs(pattern)",
+    "moments": "best_plan(costs, room) gone(rounds, room, value) least_cost(costs, room) least_room(costs, most) "
+               "plan_cost(costs, room, value) plan_error(rounds, room, value) run_rounds(row, point, rounds) "
+               "swept_rounds(row, point, weights, room, value)",
+    "pebbles": "acts_needed(spots, pebbles) farthest(pebbles, acts) is_way(spots, pebbles, value) "
+               "pebble_way(spots, pebbles) pebbles_needed(spots) ways_counted(spots, pebbles)",
+    "points": "lifted_point(row, end, prime, power, point, index) rough(row, end, prime) smooth(row, end, prime) "
+              "smooth_count(row, end, prime, power)",
+    "rounds": "after(row, times) after_rests(row, times, modulus) alike_from(row, other) comes_back(row) "
+              "gathered(row, times) run_after(row, point, times) settles(row)",
+    "turned": "is_turned(row, value) turned(row) turned_counts(row)",
     "moduli": "count_by(row, end, parts) nought_at(row, end, prime, power, number) "
               "nought_count(row, end, prime, power) noughts(row, end, prime, power)",
 }
@@ -54,6 +64,7 @@ CLASSES = {
         "drop(self) label(self, name, number) unlabel(self, name) undo(self) redo(self) batch(self, edits) "
         "attempt(self, work) news(self) copy(self) __eq__(self, other) __str__(self)"),
     ("desks", "KeptDesk"): ("kept", "__init__(self, value, names) copy(self) __str__(self)"),
+    ("shells", "Shell"): ("", "__init__(self) say(self, line)"),
 }
 
 

@@ -427,7 +427,7 @@ def l25_methods(name, tree):
     own = {node.name for node in ast.walk(tree) if isinstance(node, ast.FunctionDef)}
     for node in ast.walk(tree):
         if isinstance(node, ast.Call) and isinstance(node.func, ast.Attribute):
-            if node.func.attr not in METHODS | own:
+            if node.func.attr not in METHODS | OWN_METHODS | own:
                 yield node.lineno, f"the method {node.func.attr}"
         elif isinstance(node, ast.Attribute) and isinstance(node.ctx, ast.Load) and node.attr in METHODS:
             if getattr(node.parent, "func", None) is not node and node.attr not in ATTRIBUTES:
@@ -462,6 +462,14 @@ def l28_double_underscores(name, tree):
             yield node.lineno, "not in a class"
 
 
+def own_methods():
+    """Return the names of the methods of all classes of the package."""
+    trees = [ast.parse(path.read_text("utf-8")) for path in FILES]
+    classes = [node for tree in trees for node in tree.body if isinstance(node, ast.ClassDef)]
+    return {part.name for node in classes for part in node.body if isinstance(part, ast.FunctionDef)}
+
+
+OWN_METHODS = own_methods()
 CHECKS = [check for name, check in sorted(globals().items()) if re.match(r"l\d+_", name)]
 
 # For each check what it must find.

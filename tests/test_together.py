@@ -13,16 +13,21 @@ from rowsback.groups import group_count, groups, is_grouping, rates_by, together
 from rowsback.holding import are_slots, best_order, is_order, is_wood, least_load, load, slots
 from rowsback.keeping import extended, forgets, forgotten, kept_weights, tells_back
 from rowsback.leasts import greatest, is_least_paper, least, least_paper, signs
-from rowsback.lifts import endless
+from rowsback.lifts import endless, lifted
 from rowsback.matches import blocks, cover, pairs
 from rowsback.moduli import nought_count, noughts
+from rowsback.moments import best_plan, least_cost, least_room, plan_cost, swept_rounds
 from rowsback.patterns import fed_pattern, pattern_of, turned_pattern
+from rowsback.pebbles import acts_needed, farthest, pebble_way, pebbles_needed
 from rowsback.places import in_place
+from rowsback.points import lifted_point, rough, smooth
 from rowsback.rates import rates_at
 from rowsback.reach import determinant, hinders, origin, rank, relations, undone
+from rowsback.rounds import after, run_after
 from rowsback.rows import long_error, needed, told
 from rowsback.straight import row_of, table_of
-from rowsback.tapes import moved, tape_row
+from rowsback.tapes import moved, taken_back, tape_row
+from rowsback.turned import turned
 
 
 def plain(table, column=None):
@@ -259,6 +264,122 @@ class PatternsTest(unittest.TestCase):
                 whole *= determinant(plain([tuple(rates[end][k] for k in block) for end in block]))
             self.assertEqual(determinant(plain(rates)), whole)
         self.assertGreater(several, 20)
+
+
+def line_tape(spots, pebbles, by):
+    """Return a tape that goes a way of pebbles for a line of steps, each told by a move, and takes back all but the last.
+
+    The places are that of the input, a slot for each pebble, and that of the end.
+    """
+    end = pebbles + 1
+    slot_of, moves = {0: 0}, []
+    for spot in pebble_way(spots, pebbles):
+        ahead, sign = slot_of[spot - 1], -1 if spot in slot_of else 1
+        if sign == 1:
+            slot_of[spot] = end if spot == spots else min(set(range(1, end)) - set(slot_of.values()))
+        place = slot_of[spot]
+        moves.append(("add", place, ahead, ahead, sign) if by == "*" else ("gain", place, ahead, -sign))
+        if sign == -1:
+            del slot_of[spot]
+    return (end + 1, tuple(moves))
+
+
+class WaysTest(unittest.TestCase):
+
+    def line(self, spots, by):
+        steps = [("in", 0)] + [("*", k, k) if by == "*" else ("neg", k) for k in range(spots)]
+        return (1, tuple(steps), (spots,))
+
+    def test_ways_are_clean_tapes_of_lines(self):
+        for spots in list(range(1, 9)) + [16, 40]:
+            for pebbles in (pebbles_needed(spots), pebbles_needed(spots) + 1, spots):
+                tape = line_tape(spots, pebbles, "neg")
+                self.assertEqual(len(tape[1]), acts_needed(spots, pebbles))
+                self.assertIs(is_clean(self.line(spots, "neg"), tape), True)
+                if spots <= 6:
+                    self.assertIs(is_clean(self.line(spots, "*"), line_tape(spots, pebbles, "*")), True)
+
+    def test_a_way_with_an_act_left_out_is_not_clean(self):
+        places, moves = line_tape(5, 4, "neg")
+        for index in range(len(moves)):
+            self.assertIs(is_clean(self.line(5, "neg"), (places, moves[:index] + moves[index + 1:])), False)
+
+    def test_ways_beside_orders_and_slots(self):
+        """Gone one way only, a line needs one slot; there and back it needs more and more."""
+        for spots in range(1, 40):
+            row = self.line(spots, "neg")
+            self.assertIs(is_wood(row), True)
+            order = best_order(row)
+            self.assertEqual([order, least_load(row), set(slots(row, order))], [tuple(range(spots + 1)), 1, {0}])
+            self.assertGreaterEqual(pebbles_needed(spots), 1 if spots == 1 else 2)
+            self.assertEqual(farthest(pebbles_needed(spots), acts_needed(spots, pebbles_needed(spots))) >= spots, True)
+
+
+class RoundsTest(unittest.TestCase):
+
+    def round_rows(self):
+        for seed in range(30):
+            many = 1 + seed % 3
+            yield seed, row_of(many, tuple(random_point(seed + 40 * k, many, 3) for k in range(many)), random_point(seed, many, 5))
+
+    def test_rounds_led_back_beside_turned_rows(self):
+        for seed, row in self.round_rows():
+            weights, point = random_point(seed, row[0], 9), random_point(seed + 1, row[0], 9)
+            for rounds, room in ((1, 1), (3, 1), (5, 2), (9, 3)):
+                plan = best_plan((1,) * rounds, room)
+                back = swept_rounds(row, point, weights, room, plan)
+                self.assertEqual(back, run_after(turned(row), weights, rounds))
+                table, _ = after(row, rounds)
+                self.assertEqual(back, tuple(sum(w * some[k] for w, some in zip(weights, table)) for k in range(row[0])))
+
+    def test_what_comes_of_the_greatest_plan(self):
+        costs = tuple(k * k % 7 for k in range(12))
+        for room in (1, 2, 3, 5):
+            plan = best_plan(costs, room)
+            self.assertEqual(plan_cost(costs, room, plan), least_cost(costs, room))
+            self.assertLessEqual(least_room(costs, least_cost(costs, room)), room)
+
+    def test_shifts_that_are_forgotten_behind_rounds(self):
+        for seed, row in self.round_rows():
+            for shift in forgotten(row):
+                point = random_point(seed, row[0], 9)
+                for times in (1, 2, 5):
+                    moved_on = tuple(a + b for a, b in zip(point, shift))
+                    self.assertEqual(run_after(row, moved_on, times), run_after(row, point, times))
+
+    def test_rows_in_place_again_and_again(self):
+        """A tape that does a round does many rounds, and led back it undoes them."""
+        row = row_of(3, ((0, 1, 0), (0, 0, 1), (1, 0, 1)), (1, -2, 0))
+        word, (places, moves) = in_place(row)
+        self.assertEqual(word, "moves")
+        for times in range(6):
+            self.assertEqual(moved((places, moves * times), (5, 6, 7)), run_after(row, (5, 6, 7), times))
+            self.assertEqual(moved(taken_back((places, moves * times)), run_after(row, (5, 6, 7), times)), (5, 6, 7))
+
+
+class NoughtsTest(unittest.TestCase):
+
+    def test_lifted_points_lie_in_lots(self):
+        for seed in range(30):
+            row = random_row(seed, 2, 12, 1, most=5)
+            for point in smooth(row, 0, 3):
+                for index in (0, 1):
+                    if rates_at(row, point)[0][index] % 3:
+                        found = lifted_point(row, 0, 3, 5, point, index)
+                        # The row along this input, with the other one at its number.
+                        along = fed((1, (("in", 0), ("set", point[1 - index])), (0, 1) if index == 0 else (1, 0)), row)
+                        self.assertEqual(lifted(along, 0, 3, 5, point[index]), found[index])
+                        self.assertIn((found[index], 5), noughts(along, 0, 3, 5))
+                        self.assertEqual(endless(along, 0, 3)[0], "lifts")
+
+    def test_smooth_and_rough_noughts_beside_boxes(self):
+        for seed in range(20):
+            row = random_row(seed, 2, 10, 1, most=4)
+            box = ((0, 2), (0, 2))
+            there = smooth(row, 0, 3) + rough(row, 0, 3)
+            self.assertEqual(sorted(there), [point for point in product(range(3), repeat=2) if told(row, point)[0] % 3 == 0])
+            if 0 in signs(row, 0, box):
+                self.assertNotEqual(there, ())
 
 
 class BoxesTest(unittest.TestCase):
