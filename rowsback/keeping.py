@@ -4,7 +4,7 @@ from rowsback.divisors import common_divisor
 from rowsback.errors import Unfit
 from rowsback.kinds import is_integer, is_tuple_of
 from rowsback.reach import determinant_of, stepped_inputs, summed
-from rowsback.straight import table_of, unit_rows
+from rowsback.straight import across, table_of, unit_rows
 from rowsback.tapes import moved, taken_back
 
 
@@ -103,5 +103,5 @@ def _bars(table, value):
     number, multipliers = value
     if number < 0 or number == 1 or common_divisor(multipliers) != 1:
         return False
-    sums = [summed(multipliers, across) for across in zip(*table)]
+    sums = [summed(multipliers, factors) for factors in across(table, len(table[0]))]
     return all([total == 0 if number == 0 else total % number == 0 for total in sums])

@@ -21,7 +21,13 @@ def greatest(row, end, box):
 
 def signs(row, end, box):
     """Return the signs of the values of the end at the points of the box, ascending."""
-    return tuple(sorted(set([(value > 0) - (value < 0) for value, _ in _all_told(row, end, box)])))
+    return tuple(sorted(set([_sign(value) for value, _ in _all_told(row, end, box)])))
+
+
+def _sign(value):
+    if value == 0:
+        return 0
+    return 1 if value > 0 else -1
 
 
 def _all_told(row, end, box):

@@ -112,7 +112,8 @@ def _all_ahead(lots, number):
     found = {number: True}
     waiting = [number]
     while waiting:
-        fresh = [other for other in lots[waiting.pop()] if other not in found]
+        at = waiting.pop()
+        fresh = [other for other in lots[at] if other not in found]
         for other in fresh:
             found[other] = True
             waiting.append(other)

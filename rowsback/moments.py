@@ -122,8 +122,6 @@ def best_plan(costs, room):
 
 def _plan(found, low, high, some):
     """Return the acts that bring the goal from high to low, the moment low being at hand."""
-    if low == high:
-        return ()
     mid = found[low, high, some][1]
     if mid == high - 1:
         first = ("go",) * (mid - low) + ("back",)

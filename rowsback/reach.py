@@ -5,7 +5,7 @@ from math import gcd
 from rowsback.divisors import common_divisor
 from rowsback.errors import NotRound
 from rowsback.kinds import is_integer, is_tuple_of
-from rowsback.straight import table_of, unit_rows
+from rowsback.straight import across, table_of, unit_rows
 from rowsback.tapes import sign
 
 
@@ -99,8 +99,8 @@ def stepped_inputs(table, inputs):
     A row has the factors of its input in all ends, and behind them those
     by which the inputs it comes of are summed.
     """
-    across = [tuple([factors[index] for factors in table]) for index in range(inputs)]
-    return stepped([factors + unit for factors, unit in zip(across, unit_rows(inputs))], len(table))
+    beside = [factors + unit for factors, unit in zip(across(table, inputs), unit_rows(inputs))]
+    return stepped(beside, len(table))
 
 
 def origin(row, wish):

@@ -2,7 +2,7 @@
 
 from rowsback.errors import Unfit
 from rowsback.reach import round_table_of, summed
-from rowsback.straight import unit_rows
+from rowsback.straight import across, unit_rows
 
 # The greatest ring that maps of at most MAX_INPUTS inputs have.
 MAX_RING = 60
@@ -53,8 +53,8 @@ def _nothing_done(inputs):
 def _behind(one, other, modulus):
     """Return the map of other behind one; with the rests by the modulus, if it is not None."""
     table, column = one
-    across = list(zip(*table))
-    whole = [[summed(factors, some) for some in across] for factors in other[0]]
+    turned = across(table, len(table))
+    whole = [[summed(factors, some) for some in turned] for factors in other[0]]
     more = [summed(factors, column) + number for factors, number in zip(other[0], other[1])]
     return _rests((whole, more), modulus)
 

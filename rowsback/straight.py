@@ -36,6 +36,11 @@ def unit_rows(many):
     return tuple([tuple([1 if place == index else 0 for place in range(many)]) for index in range(many)])
 
 
+def across(table, many):
+    """Return the table, of tuples of so many items, with what stood in each place (i, j) in (j, i)."""
+    return tuple([tuple([factors[index] for factors in table]) for index in range(many)])
+
+
 def row_of(inputs, table, column):
     """Return a plain long row with so many inputs, this table and this column."""
     steps = [("in", index) for index in range(inputs)]

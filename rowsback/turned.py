@@ -4,7 +4,7 @@ from rowsback.backward import backward
 from rowsback.fitting import renamed, slim
 from rowsback.rates import is_long_row_of
 from rowsback.rows import degrees, needed
-from rowsback.straight import is_plain, table_of
+from rowsback.straight import across, is_plain, table_of
 
 
 def turned_counts(row):
@@ -39,5 +39,4 @@ def is_turned(row, value):
     if not is_long_row_of(value, len(ends), inputs) or not is_plain(value):
         return False
     table, _ = table_of(row)
-    across = tuple([tuple([factors[index] for factors in table]) for index in range(inputs)])
-    return table_of(value) == (across, (0,) * inputs)
+    return table_of(value) == (across(table, inputs), (0,) * inputs)

@@ -1,6 +1,8 @@
 """What the document says over all modules: rows that are the same, equal arguments, limits, and any values."""
 
+import random
 import unittest
+from fractions import Fraction
 
 from helper import HUGE, ODD, bent, random_point, random_row
 from rowsback.backward import backward, is_backward
@@ -21,7 +23,8 @@ from rowsback.patterns import pattern_error, pattern_of
 from rowsback.pebbles import acts_needed, farthest, is_way, pebble_way, pebbles_needed
 from rowsback.places import in_place, in_place_holds
 from rowsback.points import lifted_point, rough, smooth, smooth_count
-from rowsback.rates import forward, hangs, is_forward, rate_poly, rates_at, second
+from rowsback.polys import value_of
+from rowsback.rates import forward, hangs, is_forward, rate, rate_poly, rates_at, second
 from rowsback.reach import determinant, hinders, hindrance, origin, rank, relations, undone
 from rowsback.rounds import after, after_rests, alike_from, comes_back, gathered, run_after, settles
 from rowsback.rows import degrees, is_point, long_error, row_error, told, values
@@ -29,7 +32,7 @@ from rowsback.sames import parting, polys, same
 from rowsback.shells import Shell
 from rowsback.straight import is_plain, is_straight, row_of, table_of
 from rowsback.sweeps import kept, seconds_at, swept
-from rowsback.tapes import moved, same_moved, tape_error, tape_polys
+from rowsback.tapes import moved, same_moved, sign, tape_error, tape_polys, tape_row
 from rowsback.texts import read_row, row_text
 from rowsback.turned import is_turned, turned
 
@@ -266,6 +269,65 @@ class MoreFactsTest(unittest.TestCase):
             if tape[0] <= 20:
                 self.assertIs(same_moved(tape, tape), True)
                 self.assertEqual(len(tape_polys(tape)), tape[0])
+
+    def test_what_comes_by_a_tape_has_its_sign_as_the_determinant_of_its_rates(self):
+        signs_told = {}
+        for seed in range(60):
+            rng = random.Random(seed)
+            places = 2 + seed % 4
+            moves = []
+            for _ in range(rng.randint(1, 7)):
+                one, other, third = rng.sample(range(max(3, places)), 3)
+                move = rng.choice((("gain", one, other, rng.randint(-3, 3)), ("add", one, other, third, rng.randint(-3, 3)),
+                                   ("add", one, other, other, 2), ("swap", one, other), ("turn", one), ("more", one, 4)))
+                moves.append(move)
+            tape = (max(3, places), tuple(moves))
+            filling = random_point(seed, tape[0], 9)
+            rates = rates_at(tape_row(tape), filling)
+            if max(abs(number) for some in rates for number in some) <= 10 ** 20:
+                found = determinant(row_of(tape[0], rates, (0,) * tape[0]))
+                self.assertEqual(found, sign(tape))
+                signs_told[found] = signs_told.get(found, 0) + 1
+        self.assertGreater(min(signs_told[1], signs_told[-1]), 10)
+
+    def test_with_an_unknown_greater_by_some_number(self):
+        """A polynomial is its value, and the number times its rate, and what has the number twice as a factor."""
+        for seed in range(30):
+            row = random_row(seed, 3, 12, 1, most=5)
+            poly = polys(row)[0]
+            point = random_point(seed, 3, 30)
+            for unknown in range(3):
+                for more in (1, -2, 7, 10 ** 9):
+                    far = point[:unknown] + (point[unknown] + more,) + point[unknown + 1:]
+                    rest = value_of(poly, far) - value_of(poly, point) - more * value_of(rate(poly, unknown), point)
+                    self.assertEqual(rest % (more * more), 0)
+
+    def test_rows_that_do_not_settle_grow_beyond_all_bounds(self):
+        kinds = {True: 0, False: 0}
+        for seed in range(80):
+            row = straight_row(seed, 2, 2)
+            found = settles(row)
+            greatest_told = [max(abs(number) for some in after(row, times)[0] + (after(row, times)[1],) for number in some)
+                             for times in range(0, 90, 3)]
+            if found is None:
+                # Integers that never come again cannot all stay small.
+                self.assertGreater(max(greatest_told[15:]), max(greatest_told[:10]))
+            else:
+                start, ring = found
+                self.assertEqual([after(row, start + ring * many) for many in (1, 2, 5)], [after(row, start)] * 3)
+            kinds[found is None] += 1
+        self.assertGreater(min(kinds.values()), 1)
+
+    def test_the_ends_of_a_box_lie_in_its_ranges_between_its_points_too(self):
+        """Ranges have fractions, too: those of a row with all inputs as halves hold for the halves."""
+        for seed in range(20):
+            row = random_row(seed, 2, 9, 1, most=3)
+            box = ((-3, 2), (-1, 3))
+            (low, high), = ranges(row, box)
+            for x in range(-6, 5):
+                for y in range(-2, 7):
+                    value = sum(factor * Fraction(x, 2) ** powers[0] * Fraction(y, 2) ** powers[1] for powers, factor in polys(row)[0])
+                    self.assertTrue(low <= value <= high)
 
     def test_of_a_thing_and_what_bars_it_there_is_just_one(self):
         for seed in range(40):

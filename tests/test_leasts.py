@@ -226,6 +226,7 @@ class PaperTest(unittest.TestCase):
             box, tree = ladder(deep)
             self.assertEqual(deep_of(tree), deep)
             self.assertIs(is_least_paper(SQUARE, 0, box, (0, (0,), tree)), right, deep)
+            self.assertIs(is_least_paper(SQUARE, 1, ((0, deep + 7),), (0, (0,), ("parted", 0, deep + 2, tree, "step"))), deep < 40)
         box, tree = ladder(40, "rates")
         self.assertIs(is_least_paper(SQUARE, 0, box, (0, (0,), tree)), True)
         deep = ("parted", 0, 500, "step", ladder(40)[1])
