@@ -128,3 +128,23 @@ def full_row():
             low = number % 8
         steps.append((word, number - 1) if word == "neg" else (word, number - 1, low))
     return (8, tuple(steps), tuple(range(52, 60)))
+
+
+def row_with(factors):
+    """Return a row whose end has these factors, from that of the power 0 on."""
+    steps = [("in", 0), ("set", 0)]
+    top = 1
+    for factor in factors[::-1]:
+        steps += [("*", top, 0), ("set", factor), ("+", len(steps), len(steps) + 1)]
+        top = len(steps) - 1
+    return (1, tuple(steps), (top,))
+
+
+def row_of_roots(roots):
+    """Return a row whose end is the product of the input less each of these numbers."""
+    steps = [("in", 0), ("set", 1)]
+    top = 1
+    for root in roots:
+        steps += [("set", root), ("-", 0, len(steps)), ("*", top, len(steps) + 1)]
+        top = len(steps) - 1
+    return (1, tuple(steps), (top,))

@@ -3,7 +3,7 @@ import unittest
 from fractions import Fraction
 from math import gcd
 
-from helper import HUGE, ODD, bent, chain, lists_of, random_row
+from helper import HUGE, ODD, bent, chain, lists_of, random_row, row_of_roots, row_with
 from rowsback.errors import TooGreat, Unfit
 from rowsback.lifts import bare, endless, endless_holds, lifted
 from rowsback.moduli import nought_count, noughts
@@ -11,8 +11,10 @@ from rowsback.polys import value_of
 from rowsback.rates import rate, rates_at
 from rowsback.rows import row_error, told
 from rowsback.sames import polys
-from test_moduli import LESS, LINE, NOUGHT, row_of_roots, row_with
 
+LESS = (1, (("in", 0), ("*", 0, 0), ("set", 1), ("-", 1, 2)), (3,))
+LINE = (1, (("in", 0),), (0,))
+NOUGHT = (1, (("in", 0), ("-", 0, 0)), (1,))
 MORE = (1, (("in", 0), ("*", 0, 0), ("set", 1), ("+", 1, 2), ("*", 3, 3)), (3, 4))
 PRIMES = (2, 3, 5, 7, 11, 13, 997)
 

@@ -1,7 +1,7 @@
 import random
 import unittest
 
-from helper import chain, random_row
+from helper import chain, random_row, row_of_roots, row_with
 from rowsback.errors import Unfit
 from rowsback.moduli import count_by, nought_at, nought_count, noughts
 from rowsback.rows import told
@@ -11,26 +11,6 @@ LINE = (1, (("in", 0),), (0,))
 EVEN = (1, (("in", 0), ("*", 0, 0), ("+", 1, 0)), (2,))
 NOUGHT = (1, (("in", 0), ("-", 0, 0)), (1,))
 POWERS = ((2, 1), (2, 2), (2, 3), (2, 6), (2, 9), (3, 1), (3, 2), (3, 4), (3, 6), (5, 1), (5, 3), (7, 2), (11, 2), (13, 1))
-
-
-def row_with(factors):
-    """Return a row whose end has these factors, from that of the power 0 on."""
-    steps = [("in", 0), ("set", 0)]
-    top = 1
-    for factor in factors[::-1]:
-        steps += [("*", top, 0), ("set", factor), ("+", len(steps), len(steps) + 1)]
-        top = len(steps) - 1
-    return (1, tuple(steps), (top,))
-
-
-def row_of_roots(roots):
-    """Return a row whose end is the product of the input less each of these numbers."""
-    steps = [("in", 0), ("set", 1)]
-    top = 1
-    for root in roots:
-        steps += [("set", root), ("-", 0, len(steps)), ("*", top, len(steps) + 1)]
-        top = len(steps) - 1
-    return (1, tuple(steps), (top,))
 
 
 def slow_values(row, end, whole):
